@@ -1,0 +1,1 @@
+"""Lockers of signal flags: the calls are in flaglockerdesk.locker."""
