@@ -1,4 +1,4 @@
-"""Every small change of sound texts, beside a second reading of the document."""
+"""Small changes of sound texts (at every place, with the bytes at the edges of what is allowed), read twice."""
 
 import unittest
 
