@@ -2,6 +2,9 @@
 
 from flaglockerdesk.reading import ANSWER, NO_LOCKER, READ, SAME, SIGN, read_text
 
+NO_SUCH_KIND = -4
+NONE = -5
+
 
 def judge(t):
     reading = read_text(t)
@@ -21,3 +24,30 @@ def size(t):
 
 def count_of(group, kinds):
     return len([one for one in kinds if one.group == group])
+
+
+def kind(i, t):
+    reading = read_text(t)
+    refusal = refusal_of_kind(i, reading)
+    if refusal != READ:
+        return [refusal]
+    one = reading.kinds[i]
+    return [READ, one.group, one.repeat, one.copies, one.shape, one.look]
+
+
+def name(i, t):
+    reading = read_text(t)
+    refusal = refusal_of_kind(i, reading)
+    if refusal != READ:
+        return [refusal]
+    one = reading.kinds[i]
+    if one.group != SIGN:
+        return [NONE]
+    return [len(one.title)] + one.title
+
+
+def refusal_of_kind(i, reading):
+    """Why kind i of what was read cannot be told, or READ."""
+    if reading.answer != READ:
+        return reading.answer
+    return READ if i < len(reading.kinds) else NO_SUCH_KIND

@@ -4,6 +4,7 @@ import itertools
 import unittest
 
 from flaglockerdesk.locker import judge, size
+from tests.cases import Calls
 from tests.texts import FULL, LOOK, look, raw, signs, text
 
 
@@ -112,53 +113,16 @@ class OneTextForALocker(unittest.TestCase):
             self.assertEqual(size(raw(spelling)), [-6], spelling)
 
 
-class WhatIsHandedInAndBack(unittest.TestCase):
+class WhatIsHandedInAndBack(Calls):
     def texts(self):
         long = raw("locker L\n") + [10] * 65991
         return [text(*FULL), [], text(*FULL)[:-1], text("locker L", *signs(49)), long[:65536], long]
 
-    def test_the_list_is_the_same_afterwards(self):
+    def test_each_call_stands_by_itself(self):
         for call in (judge, size):
-            for t in self.texts():
-                before = list(t)
-                call(t)
-                self.assertEqual(t, before)
-
-    def test_the_list_is_never_changed_for_a_while(self):
-        for call in (judge, size):
-            for t in self.texts():
-                self.assertEqual(call(Unchanging(t)), call(t))
-
-    def test_the_same_call_gives_the_same_answer_again(self):
-        for call in (judge, size):
-            first = [call(t) for t in self.texts()]
-            again = [call(t) for t in reversed(self.texts())]
+            first = [self.answer(call, t) for t in self.texts()]
+            again = [self.answer(call, t) for t in reversed(self.texts())]
             self.assertEqual(first, again[::-1])
-
-    def test_what_is_given_back_may_be_changed(self):
-        for call in (judge, size):
-            for t in self.texts():
-                answer = call(t)
-                kept = list(answer)
-                answer.append(7)
-                self.assertEqual(call(t), kept)
-
-    def test_lists_of_whole_numbers_are_given_back(self):
-        for call in (judge, size):
-            for t in self.texts():
-                answer = call(t)
-                self.assertIs(type(answer), list)
-                self.assertEqual({type(number) for number in answer}, {int})
-
-
-class Unchanging(list):
-    """A list that fails the test when it is changed."""
-
-    def changed(self, *args, **kwargs):
-        raise AssertionError("the list handed in was changed")
-
-    append = extend = insert = pop = remove = clear = sort = reverse = changed
-    __setitem__ = __delitem__ = __iadd__ = __imul__ = changed
 
 
 if __name__ == "__main__":

@@ -3,6 +3,7 @@
 import re
 
 LOOK = "0123456789abcdef"
+GREATEST = 18446744073709551615
 
 
 def look(number):
@@ -19,6 +20,11 @@ def raw(letters):
     return list(letters.encode("latin-1"))
 
 
+def grown(t, length):
+    """The text t with so many bytes more that it has this length; it is no locker's any more."""
+    return t + [10] * (length - len(t))
+
+
 def signs(count):
     """Lines of so many signs, none like another."""
     return [f"sign S{i} 1 square {look(i)}" for i in range(count)]
@@ -32,6 +38,18 @@ FULL = (
     "same 1 2 square 1111111111111111",
     "same 3 1 tails 1111111111111111",
     "answer 4 long 1111111111111111",
+)
+
+LARGEST = text(
+    "locker LONGNAME",
+    *signs(48),
+    *[f"same {k} {k} tails {look(k)}" for k in (1, 2, 3, 4)],
+    "answer 8 long " + LOOK,
+)
+
+NO_LOCKERS = (
+    [], [10], text("locker L"), text(*FULL)[:-1], text(*FULL) + [65], text(*FULL, "words"),
+    text("locker L", *signs(49)), text("locker L", FULL[1], FULL[1]), text("locker L", FULL[4]),
 )
 
 TAIL = rb"([1-8]) (square|tails|long) ([0-9a-f]{16})"
