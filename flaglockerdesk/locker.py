@@ -1,7 +1,11 @@
 """The calls on lockers. Each gives back a list: the number answered, then what else is told."""
 
-from flaglockerdesk.reading import ANSWER, NO_LOCKER, READ, SAME, SIGN, read_text
+from flaglockerdesk.looks import from_behind, in_light
+from flaglockerdesk.reading import ANSWER, NO_LOCKER, READ, SAME, SIGN, is_name, read_text
 
+BEHIND = 1
+
+OUT_OF_BOUNDS = -1
 NO_SUCH_KIND = -4
 NONE = -5
 
@@ -28,7 +32,7 @@ def count_of(group, kinds):
 
 def kind(i, t):
     reading = read_text(t)
-    refusal = refusal_of_kind(i, reading)
+    refusal = refusal_of_kind(i, reading, True)
     if refusal != READ:
         return [refusal]
     one = reading.kinds[i]
@@ -37,7 +41,7 @@ def kind(i, t):
 
 def name(i, t):
     reading = read_text(t)
-    refusal = refusal_of_kind(i, reading)
+    refusal = refusal_of_kind(i, reading, True)
     if refusal != READ:
         return [refusal]
     one = reading.kinds[i]
@@ -46,8 +50,37 @@ def name(i, t):
     return [len(one.title)] + one.title
 
 
-def refusal_of_kind(i, reading):
-    """Why kind i of what was read cannot be told, or READ."""
+def find(t, n):
+    reading = read_text(t)
+    refusal = refusal_of(reading, is_name(n))
+    if refusal != READ:
+        return [refusal]
+    # What is no sign has no bytes in its title, and a name has one at least.
+    for number, one in enumerate(reading.kinds):
+        if one.title == n:
+            return [number]
+    return [NONE]
+
+
+def seen(i, light, side, t):
+    reading = read_text(t)
+    refusal = refusal_of_kind(i, reading, side <= BEHIND)
+    if refusal != READ:
+        return [refusal]
+    look = in_light(reading.kinds[i].look, light)
+    return [READ, from_behind(look) if side == BEHIND else look]
+
+
+def refusal_of(reading, within):
+    """Why a call on what was read is refused, or READ; within: all else handed in is within its bounds."""
     if reading.answer != READ:
         return reading.answer
-    return READ if i < len(reading.kinds) else NO_SUCH_KIND
+    return READ if within else OUT_OF_BOUNDS
+
+
+def refusal_of_kind(i, reading, within):
+    """The same for a call that asks for kind i."""
+    refusal = refusal_of(reading, within)
+    if refusal == READ and i >= len(reading.kinds):
+        return NO_SUCH_KIND
+    return refusal

@@ -1,5 +1,7 @@
 """Reads the text of a locker: the kinds it tells, or its first fault."""
 
+from flaglockerdesk.looks import CELLS, number_of
+
 READ = 0
 TOO_LONG = -2
 NO_LOCKER = -6
@@ -19,7 +21,6 @@ MOST_SIGNS = 48
 MOST_COPIES = 8
 MOST_REPEAT = 4
 LONGEST_NAME = 8
-CELLS = 16
 
 LINE_END = 10
 BLANK = 32
@@ -178,16 +179,10 @@ def shape_told(word):
 
 
 def look_told(word):
-    if len(word) != CELLS:
+    colours = [colour_told(byte) for byte in word]
+    if len(word) != CELLS or None in colours:
         return None
-    look = 0
-    # Cell 0 is written first but is the lowest digit.
-    for byte in reversed(word):
-        colour = colour_told(byte)
-        if colour is None:
-            return None
-        look = look * 16 + colour
-    return look
+    return number_of(colours)
 
 
 def colour_told(byte):
