@@ -1,9 +1,9 @@
 """The calls on lockers. Each gives back a list: the number answered, then what else is told."""
 
-from flaglockerdesk.looks import from_behind, in_light
 from flaglockerdesk.reading import ANSWER, NO_LOCKER, READ, SAME, SIGN, is_name, read_text
-
-BEHIND = 1
+from flaglockerdesk.sights import (
+    ALL_CELLS, BEHIND, SHAPE_NOT_MADE_OUT, SIDE_NOT_KNOWN, Sight, agrees, alike_pairs, view,
+)
 
 OUT_OF_BOUNDS = -1
 NO_SUCH_KIND = -4
@@ -67,8 +67,30 @@ def seen(i, light, side, t):
     refusal = refusal_of_kind(i, reading, side <= BEHIND)
     if refusal != READ:
         return [refusal]
-    look = in_light(reading.kinds[i].look, light)
-    return [READ, from_behind(look) if side == BEHIND else look]
+    return [READ, view(reading.kinds[i], light, side)]
+
+
+def reads(light, side, shape, cells, look, t):
+    reading = read_text(t)
+    within = side <= SIDE_NOT_KNOWN and shape <= SHAPE_NOT_MADE_OUT and cells <= ALL_CELLS
+    refusal = refusal_of(reading, within)
+    if refusal != READ:
+        return [refusal]
+    sight = Sight(light, side, shape, cells, look)
+    numbers = [number for number, one in enumerate(reading.kinds) if agrees(one, sight)]
+    return [len(numbers)] + numbers
+
+
+def alike(light, side, t):
+    reading = read_text(t)
+    refusal = refusal_of(reading, side <= SIDE_NOT_KNOWN)
+    if refusal != READ:
+        return [refusal]
+    pairs = alike_pairs(reading.kinds, light, side)
+    answer = [len(pairs)]
+    for first, second in pairs:
+        answer.extend([first, second])
+    return answer
 
 
 def refusal_of(reading, within):

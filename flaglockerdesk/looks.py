@@ -36,3 +36,14 @@ def mirrored(cell):
     """The cell that is as far from the other end of its row."""
     before = cell % ROW
     return cell - before + ROW - 1 - before
+
+
+def cells_apart(look, other):
+    """The cells in which two looks differ, as a number with bit i for cell i."""
+    apart = 0
+    bit = 1
+    for first, second in zip(digits_of(look), digits_of(other)):
+        if first != second:
+            apart += bit
+        bit *= 2
+    return apart

@@ -23,3 +23,36 @@ def behind(look):
 def view(look, light, side):
     """How a look is in a light from side 0 or 1."""
     return behind(lit(look, light)) if side else lit(look, light)
+
+
+SIDES = ((0,), (1,), (0, 1))  # from where a flag may be seen, by the side that is told
+
+
+def views(kind, light, side):
+    """The words that a kind, its shape and its look as a word, may show."""
+    return [view(kind[1], light, one) for one in SIDES[side]]
+
+
+def made_out(cells):
+    return [cell for cell in range(16) if format(cells, "016b")[15 - cell] == "1"]
+
+
+def agrees(kind, light, side, shape, cells, look):
+    if shape != 3 and shape != kind[0]:
+        return False
+    return any(all(shown[cell] == look[cell] for cell in made_out(cells)) for shown in views(kind, light, side))
+
+
+def reads(kinds, light, side, shape, cells, look):
+    numbers = [i for i, kind in enumerate(kinds) if agrees(kind, light, side, shape, cells, look)]
+    return [len(numbers), *numbers]
+
+
+def alike(kinds, light, side):
+    """Held against the sights themselves: only one that shows what a kind shows agrees with that kind."""
+    sights = {(shape, shown) for shape, look in kinds for shown in views((shape, look), light, side)}
+    pairs = set()
+    for shape, shown in sights:
+        told = reads(kinds, light, side, shape, 65535, shown)[1:]
+        pairs.update((i, j) for i in told for j in told if i < j)
+    return [len(pairs), *[number for pair in sorted(pairs) for number in pair]]

@@ -1,0 +1,96 @@
+"""What is promised of the calls together, over drawn lockers, lights, sides, shapes and cells."""
+
+import random
+import unittest
+
+from flaglockerdesk.locker import kind, reads, seen, size
+from tests import drawn
+from tests.cases import Calls
+from tests.model import SIDES, number, word
+
+TURNS = 250
+
+
+def merged(draw, light):
+    """A light that tells no more colours apart: some classes of this one are taken for others."""
+    classes = [draw.choice("0123456789abcdef") for one in range(16)]
+    return number("".join(classes[int(one, 16)] for one in word(light)))
+
+
+class Drawn(Calls):
+    def setUp(self):
+        self.draw = random.Random(self.id().split(".")[-1])
+
+    def sight(self, t, i, light, side, cells):
+        """The shape and the look of a sight that is made of kind i, from some side that it may be seen from."""
+        shape = self.draw.choice((kind(i, t)[4], 3))
+        shown = seen(i, light, self.draw.choice(SIDES[side]), t)[1]
+        return shape, drawn.elsewhere(self.draw, shown, cells)
+
+    def turns(self, count=TURNS):
+        """Lockers, each with the numbers of its kinds, a light and a side."""
+        for turn in range(count):
+            t, kinds = drawn.locker(self.draw)
+            self.assertEqual(sum(size(t)[1:4]), len(kinds))
+            yield t, range(len(kinds)), drawn.light(self.draw), self.draw.randrange(3)
+
+
+class Sights(Drawn):
+    def read(self, *handed):
+        told = self.answer(reads, *handed)
+        self.assertEqual(told[0], len(told) - 1)
+        self.assertEqual(told[1:], sorted(set(told[1:])))
+        return told[1:]
+
+    def test_a_kind_agrees_with_every_sight_that_is_made_of_it(self):
+        for t, numbers, light, side in self.turns():
+            cells = drawn.cells(self.draw)
+            for i in numbers:
+                shape, look = self.sight(t, i, light, side, cells)
+                self.assertIn(i, self.read(light, side, shape, cells, look, t))
+
+    def test_what_agrees_could_have_been_seen_just_so(self):
+        for t, numbers, light, side in self.turns():
+            cells = drawn.cells(self.draw)
+            shape, look = self.sight(t, self.draw.choice(numbers), light, side, cells)
+            for i in self.read(light, side, shape, cells, look, t):
+                shows = [word(seen(i, light, one, t)[1]) for one in SIDES[side]]
+                made_out = [cell for cell in range(16) if cells >> cell & 1]
+                self.assertTrue(any(all(one[cell] == word(look)[cell] for cell in made_out) for one in shows))
+                self.assertIn(shape, (3, kind(i, t)[4]))
+
+    def test_with_more_cells_no_more_kinds_agree(self):
+        for t, numbers, light, side in self.turns():
+            more = drawn.cells(self.draw)
+            fewer = more & self.draw.getrandbits(16)
+            shape, look = self.sight(t, self.draw.choice(numbers), light, side, more)
+            few = self.read(light, side, shape, fewer, look, t)
+            self.assertLessEqual(set(self.read(light, side, shape, more, look, t)), set(few))
+
+    def test_with_a_side_that_is_known_no_more_kinds_agree(self):
+        for t, numbers, light, side in self.turns():
+            cells = drawn.cells(self.draw)
+            shape, look = self.sight(t, self.draw.choice(numbers), light, 2, cells)
+            known = [self.read(light, one, shape, cells, look, t) for one in (0, 1)]
+            self.assertEqual(self.read(light, 2, shape, cells, look, t), sorted({*known[0], *known[1]}))
+
+    def test_with_a_shape_that_is_made_out_no_more_kinds_agree(self):
+        for t, numbers, light, side in self.turns():
+            cells = drawn.cells(self.draw)
+            look = self.sight(t, self.draw.choice(numbers), light, side, cells)[1]
+            made_out = [self.read(light, side, shape, cells, look, t) for shape in (0, 1, 2)]
+            self.assertEqual(self.read(light, side, 3, cells, look, t), sorted(sum(made_out, [])))
+
+    def test_in_a_light_that_tells_more_colours_apart_no_more_kinds_agree(self):
+        for t, numbers, light, side in self.turns():
+            cells = drawn.cells(self.draw)
+            i, one = self.draw.choice(numbers), self.draw.choice(SIDES[side])
+            dim = merged(self.draw, light)
+            shape = self.draw.choice((kind(i, t)[4], 3))
+            bright_read = self.read(light, side, shape, cells, seen(i, light, one, t)[1], t)
+            dim_read = self.read(dim, side, shape, cells, seen(i, dim, one, t)[1], t)
+            self.assertLessEqual(set(bright_read), set(dim_read))
+
+
+if __name__ == "__main__":
+    unittest.main()
