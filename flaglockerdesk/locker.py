@@ -1,9 +1,13 @@
 """The calls on lockers. Each gives back a list: the number answered, then what else is told."""
 
+from flaglockerdesk.looks import in_light
 from flaglockerdesk.reading import ANSWER, NO_LOCKER, READ, SAME, SIGN, is_name, read_text
 from flaglockerdesk.sights import (
     ALL_CELLS, BEHIND, SHAPE_NOT_MADE_OUT, SIDE_NOT_KNOWN, Sight, agrees, alike_pairs, view,
 )
+from flaglockerdesk.telling import least_choice
+
+SHAPE_MADE_OUT = 1
 
 OUT_OF_BOUNDS = -1
 NO_SUCH_KIND = -4
@@ -91,6 +95,19 @@ def alike(light, side, t):
     for first, second in pairs:
         answer.extend([first, second])
     return answer
+
+
+def least(i, light, side, made, t):
+    reading = read_text(t)
+    refusal = refusal_of_kind(i, reading, side <= SIDE_NOT_KNOWN and made <= SHAPE_MADE_OUT)
+    if refusal != READ:
+        return [refusal]
+    told = least_choice(reading.kinds, i, light, side, made == SHAPE_MADE_OUT)
+    return [NONE] if told is None else list(told)
+
+
+def lookin(look, light):
+    return [READ, in_light(look, light)]
 
 
 def refusal_of(reading, within):

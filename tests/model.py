@@ -56,3 +56,23 @@ def alike(kinds, light, side):
         told = reads(kinds, light, side, shape, 65535, shown)[1:]
         pairs.update((i, j) for i in told for j in told if i < j)
     return [len(pairs), *[number for pair in sorted(pairs) for number in pair]]
+
+
+def tells(kinds, i, cells, light, side, made):
+    """Whether these cells tell kind i, held against every sight of it that has just them made out."""
+    shape = kinds[i][0] if made else 3
+    others = kinds[:i] + kinds[i + 1:]
+    return not any(agrees(other, light, side, shape, cells, shown)
+                   for shown in views(kinds[i], light, side) for other in others)
+
+
+CHOICES = sorted(range(65536), key=lambda cells: (len(made_out(cells)), cells))
+
+
+def least(kinds, i, light, side, made):
+    """The first choice that tells the kind, of all: those of fewer cells first, then by their numbers."""
+    if not tells(kinds, i, 65535, light, side, made):
+        return [-5]
+    for cells in CHOICES:
+        if tells(kinds, i, cells, light, side, made):
+            return [len(made_out(cells)), cells]

@@ -3,7 +3,7 @@
 import random
 import unittest
 
-from flaglockerdesk.locker import kind, reads, seen, size
+from flaglockerdesk.locker import alike, kind, least, reads, seen, size
 from tests import drawn
 from tests.cases import Calls
 from tests.model import SIDES, number, word
@@ -90,6 +90,41 @@ class Sights(Drawn):
             bright_read = self.read(light, side, shape, cells, seen(i, light, one, t)[1], t)
             dim_read = self.read(dim, side, shape, cells, seen(i, dim, one, t)[1], t)
             self.assertLessEqual(set(bright_read), set(dim_read))
+
+
+class Telling(Drawn):
+    def only(self, i, cells, light, side, made, t):
+        """Whether every sight of kind i with just these cells made out is read as kind i alone."""
+        shape = kind(i, t)[4] if made else 3
+        shows = [seen(i, light, one, t)[1] for one in SIDES[side]]
+        return all(reads(light, side, shape, cells, look, t) == [1, i] for look in shows)
+
+    def test_the_cells_told_tell_the_kind_and_no_fewer_do(self):
+        for t, numbers, light, side in self.turns():
+            i, made = self.draw.choice(numbers), self.draw.randrange(2)
+            told = self.answer(least, i, light, side, made, t)
+            if told == [-5]:
+                self.assertFalse(self.only(i, 65535, light, side, made, t))
+                continue
+            count, cells = told
+            self.assertEqual(bin(cells).count("1"), count)
+            self.assertTrue(self.only(i, cells, light, side, made, t))
+            for cell in range(16):
+                if cells >> cell & 1:
+                    self.assertFalse(self.only(i, cells - 2 ** cell, light, side, made, t))
+
+    def test_alike_are_just_those_that_no_cells_and_no_shape_tell_from_one_another(self):
+        for t, numbers, light, side in self.turns():
+            told = self.answer(alike, light, side, t)
+            pairs = list(zip(told[1::2], told[2::2]))
+            self.assertEqual(told[0], len(pairs))
+            for i in numbers:
+                untold = self.answer(least, i, light, side, 1, t) == [-5]
+                self.assertEqual(untold, any(i in pair for pair in pairs))
+                for j in numbers[i + 1:]:
+                    shows = [seen(i, light, one, t)[1] for one in SIDES[side]]
+                    taken = [j in reads(light, side, kind(i, t)[4], 65535, look, t)[1:] for look in shows]
+                    self.assertEqual(any(taken), (i, j) in pairs)
 
 
 if __name__ == "__main__":
