@@ -1,6 +1,6 @@
 """The calls on lockers. Each gives back a list: the number answered, then what else is told."""
 
-from flaglockerdesk.looks import in_light
+from flaglockerdesk.looks import from_behind, in_light
 from flaglockerdesk.reading import ANSWER, NO_LOCKER, READ, SAME, SIGN, is_name, read_text
 from flaglockerdesk.sights import (
     ALL_CELLS, BEHIND, SHAPE_NOT_MADE_OUT, SIDE_NOT_KNOWN, Sight, agrees, alike_pairs, view,
@@ -108,6 +108,10 @@ def least(i, light, side, made, t):
 
 def lookin(look, light):
     return [READ, in_light(look, light)]
+
+
+def lookbehind(look):
+    return [READ, from_behind(look)]
 
 
 def refusal_of(reading, within):

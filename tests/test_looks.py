@@ -1,11 +1,11 @@
-"""What lookin makes of a look."""
+"""What lookin and lookbehind make of a look."""
 
 import random
 import unittest
 
-from flaglockerdesk.locker import lookin
+from flaglockerdesk.locker import lookbehind, lookin
 from tests.cases import Calls
-from tests.model import TELLS_ALL, lit, number, word
+from tests.model import TELLS_ALL, behind, lit, number, word
 from tests.texts import GREATEST, LOOK
 
 
@@ -52,6 +52,37 @@ class InALight(Calls):
         for turn in range(500):
             look, light = draw.getrandbits(64), draw.getrandbits(64)
             self.lit(lit(word(look), light), word(look), word(light))
+
+
+class FromBehind(Calls):
+    def behind(self, wanted, look):
+        self.answers([0, number(wanted)], lookbehind, number(look))
+
+    def test_each_cell_alone(self):
+        others = (3, 2, 1, 0, 7, 6, 5, 4, 11, 10, 9, 8, 15, 14, 13, 12)
+        for cell, other in enumerate(others):
+            for colour in range(1, 16):
+                self.answers([0, colour * 16 ** other], lookbehind, colour * 16 ** cell)
+
+    def test_written_out(self):
+        self.behind("32107654ba98fedc", LOOK)
+        self.behind("cdef89ab45670123", "fedcba9876543210")
+        self.behind("0001000000000000", "1000000000000000")
+
+    def test_looks_that_are_the_same_from_behind(self):
+        for look in ("0" * 16, "f" * 16, "1221344356650000", "0000111122223333", "abba" * 4):
+            self.behind(look, look)
+
+    def test_the_least_and_the_greatest(self):
+        self.answers([0, 0], lookbehind, 0)
+        self.answers([0, GREATEST], lookbehind, GREATEST)
+
+    def test_drawn_looks_and_twice_behind(self):
+        draw = random.Random(91)
+        for turn in range(500):
+            look = draw.getrandbits(64)
+            self.behind(behind(word(look)), word(look))
+            self.answers([0, look], lookbehind, self.answer(lookbehind, look)[1])
 
 
 if __name__ == "__main__":

@@ -3,10 +3,11 @@
 import random
 import unittest
 
-from flaglockerdesk.locker import alike, kind, least, reads, seen, size
+from flaglockerdesk.locker import alike, find, judge, kind, least, lookbehind, lookin, name, reads, seen, size
 from tests import drawn
 from tests.cases import Calls
 from tests.model import SIDES, number, word
+from tests.texts import text
 
 TURNS = 250
 
@@ -33,6 +34,52 @@ class Drawn(Calls):
             t, kinds = drawn.locker(self.draw)
             self.assertEqual(sum(size(t)[1:4]), len(kinds))
             yield t, range(len(kinds)), drawn.light(self.draw), self.draw.randrange(3)
+
+
+class Texts(Drawn):
+    def written(self, t):
+        """The text of what the calls tell of a locker; only the locker's own name is told by none of them."""
+        lines = [bytes(t).decode().split("\n")[0]]
+        for i in range(sum(size(t)[1:4])):
+            group, k, copies, shape, look = kind(i, t)[1:]
+            first = (f"sign {bytes(name(i, t)[1:]).decode()}" if group == 0 else f"same {k}" if group == 1 else "answer")
+            lines.append(f"{first} {copies} {drawn.SHAPES[shape]} {word(look)}")
+        return text(*lines)
+
+    def test_a_text_tells_one_locker_and_a_locker_has_one_text(self):
+        for t, numbers, light, side in self.turns():
+            self.assertEqual(self.answer(judge, t), [0])
+            self.assertEqual(self.written(t), t)
+
+    def test_a_text_with_one_byte_else_tells_another_locker_or_none(self):
+        for t, numbers, light, side in self.turns():
+            place = self.draw.randrange(len(t))
+            other = t[:place] + [self.draw.choice(b"01249aAfFZ \n")] + t[place + 1:]
+            if judge(other) == [0]:
+                self.assertEqual(self.written(other), other)
+
+    def test_the_counts_and_names_are_those_of_the_kinds(self):
+        for t, numbers, light, side in self.turns():
+            kinds = [kind(i, t) for i in numbers]
+            groups = [one[1] for one in kinds]
+            copies = sum(one[3] for one in kinds)
+            self.assertEqual(size(t), [0, groups.count(0), groups.count(1), groups.count(2), copies])
+            for i in numbers:
+                if groups[i] == 0:
+                    self.answers([i], find, t, name(i, t)[1:])
+                else:
+                    self.answers([-5], name, i, t)
+
+
+class Looks(Drawn):
+    def test_what_is_seen_is_the_look_in_the_light_and_from_behind(self):
+        for t, numbers, light, side in self.turns():
+            for i in numbers:
+                look = kind(i, t)[5]
+                lit = lookin(look, light)[1]
+                self.answers([0, lit], seen, i, light, 0, t)
+                self.answers(lookbehind(lit), seen, i, light, 1, t)
+                self.answers(lookin(lookbehind(look)[1], light), seen, i, light, 1, t)
 
 
 class Sights(Drawn):
